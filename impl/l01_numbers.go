@@ -53,11 +53,7 @@ func PowerOfTen(n int64) (int64, int64) {
 	if n < 0 || n > 12 {
 		return 0, ErrRange
 	}
-	power := int64(1)
-	for range n {
-		power *= 10
-	}
-	return power, ErrNone
+	return tenTo(n), ErrNone
 }
 
 // CountDigits returns the number of decimal digits of n, 1 for 0, and ErrNone. Errors: ErrRange
@@ -156,6 +152,15 @@ func quotientUp(a int64, b int64) int64 {
 // quotientNear rounds a / b + 1/2 down, as one fraction, so that nothing is rounded twice.
 func quotientNear(a int64, b int64) int64 {
 	return quotientDown(2*a+b, 2*b)
+}
+
+// tenTo expects an exponent in 0..18, beyond which an int64 overflows.
+func tenTo(n int64) int64 {
+	power := int64(1)
+	for range n {
+		power *= 10
+	}
+	return power
 }
 
 // greatestDivisor expects numbers of at least 0.
