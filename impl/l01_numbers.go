@@ -149,6 +149,11 @@ func quotientUp(a int64, b int64) int64 {
 	return -quotientDown(-a, b)
 }
 
+// remainder expects a positive b, and is at least 0, unlike that of Go.
+func remainder(a int64, b int64) int64 {
+	return a - quotientDown(a, b)*b
+}
+
 // quotientNear rounds a / b + 1/2 down, as one fraction, so that nothing is rounded twice.
 func quotientNear(a int64, b int64) int64 {
 	return quotientDown(2*a+b, 2*b)
