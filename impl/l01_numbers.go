@@ -159,6 +159,11 @@ func quotientNear(a int64, b int64) int64 {
 	return quotientDown(2*a+b, 2*b)
 }
 
+// distance expects numbers that are far from the limits of an int64.
+func distance(a int64, b int64) int64 {
+	return maximum(a-b, b-a)
+}
+
 // tenTo expects an exponent in 0..18, beyond which an int64 overflows.
 func tenTo(n int64) int64 {
 	power := int64(1)
