@@ -352,6 +352,7 @@ func TestLeastDistanceExamples(t *testing.T) {
 		{parts(1000, 1000, 2000, 7999, 9999, 1), impl.ScaleC, 25000, 7525},
 		{parts(1000, 8000, 9000, 999, 9999, 1), impl.ScaleC, 25000, 1142},
 		{parts(1000, 1, 1001, 8999), impl.ScaleC, 25000, 10},
+		{parts(1000, 20, 2000, 50, 5000, 100), impl.ScaleC, 25000, 109},
 		// Beside the place where ScaleCF begins again.
 		{parts(1000, 2142, 3142, 1, 3143, 6857), impl.ScaleC, 25000, 3},
 		{parts(1000, 2142, 3142, 1, 3143, 6857), impl.ScaleCF, 25000, 12431},
@@ -521,6 +522,7 @@ func TestChooseGraduationExamples(t *testing.T) {
 		want                 []impl.Part
 	}{
 		{impl.ScaleC, 25000, 100, parts(1000, 20, 2000, 50, 5000, 100)},
+		{impl.ScaleC, 25000, 110, parts(1000, 20, 2000, 50, 5000, 100)}, // but 109 from 1980 to 2000, which are in two parts
 		{impl.ScaleC, 25000, 0, parts(1000, 1, 2000, 1, 5000, 1)},
 		{impl.ScaleC, 1, 0, parts(1000, 1, 2000, 1, 5000, 1)},
 		{impl.ScaleC, 25000, 1, parts(1000, 1, 2000, 1, 5000, 1)},
