@@ -52,15 +52,19 @@ func manyTicks(count int) []impl.Tick {
 	return ticks
 }
 
+// randomNumbers are at least 0, and less than their argument.
+func randomNumbers(seed uint64) func(int64) int64 {
+	return func(n int64) int64 {
+		seed = seed*6364136223846793005 + 1442695040888963407
+		return int64(seed>>33) % n
+	}
+}
+
 // someTicks are lists of 0 to 150 ticks in any order, crowded or far apart, with places of both
 // signs up to the limits.
 func someTicks() [][]impl.Tick {
 	list := [][]impl.Tick{nil, {}, manyTicks(maxTicks), make([]impl.Tick, maxTicks)}
-	seed := uint64(8)
-	next := func(n int64) int64 {
-		seed = seed*6364136223846793005 + 1442695040888963407
-		return int64(seed>>33) % n
-	}
+	next := randomNumbers(8)
 	for _, width := range []int64{1, 2, 3, 10, 50, 400, 3000, 25000, maxLength, 1 << 30} {
 		for _, count := range []int{1, 2, 3, 4, 5, 8, 13, 40, 100, 149, maxTicks} {
 			ticks := make([]impl.Tick, count)
@@ -718,12 +722,16 @@ func definedClosest(ticks []impl.Tick) (int64, int64, int64) {
 	return best[1], best[2], impl.ErrNone
 }
 
-// definedKept looks at all ticks once for each height.
 func definedKept(ticks []impl.Tick, distance int64) []int64 {
+	return definedHighest(ticks, func(a, b impl.Tick) bool { return apart(a.Place, b.Place) < distance })
+}
+
+// definedHighest looks at all ticks once for each height.
+func definedHighest(ticks []impl.Tick, areNear func(a, b impl.Tick) bool) []int64 {
 	var stay []int64
 	for _, height := range []int64{4, 3, 2, 1, 0} {
 		for i, k := range ticks {
-			near := slices.ContainsFunc(stay, func(j int64) bool { return apart(ticks[j].Place, k.Place) < distance })
+			near := slices.ContainsFunc(stay, func(j int64) bool { return areNear(ticks[j], k) })
 			if k.Height == height && !near {
 				stay = append(stay, int64(i))
 			}
