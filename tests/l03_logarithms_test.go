@@ -462,12 +462,17 @@ const fineBits = 20
 // exactLog is the logarithm of n / d and a power of ten, in parts of a unit, rounded down and up.
 // It squares numbers of so many bits that their own rounding does not matter.
 func exactLog(n, d, tens int64) impl.Interval {
+	return exactLogOf(big.NewInt(n), big.NewInt(d), tens)
+}
+
+// exactLogOf also takes products that are too great for exactLog.
+func exactLogOf(n, d *big.Int, tens int64) impl.Interval {
 	const precision = 200
 	one := new(big.Int).Lsh(big.NewInt(1), precision)
 	ten := big.NewInt(10)
 	tenOnes := new(big.Int).Mul(one, ten)
-	x := new(big.Int).Mul(one, big.NewInt(n))
-	x.Quo(x, big.NewInt(d))
+	x := new(big.Int).Mul(one, n)
+	x.Quo(x, d)
 	low := tens
 	for x.Cmp(one) < 0 {
 		x.Mul(x, ten)
